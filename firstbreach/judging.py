@@ -1,0 +1,52 @@
+"""Judging: whether a promise holds for a set of parties, and a shortest run that breaks it if not."""
+
+from firstbreach.promises import Marker, first_mark
+from firstbreach.trails import steps_to
+from firstbreach.walks import Walk
+
+
+class Verdict:
+    """Whether a promise holds, with the table of what runs lead to if so, otherwise with a run that breaks it."""
+
+    def __init__(self, holds, table, run):
+        self.holds = holds
+        self.table = None if table is None else list(table)
+        self.run = None if run is None else list(run)
+
+    def __bool__(self):
+        return bool(self.holds)
+
+
+def judge(core, promise, kept, *, start=None):
+    """Returns the verdict of the promise for the parties in the list kept."""
+    mark = first_mark(core, promise)
+    walk = Walk(core, kept)
+    marker = Marker(core, promise)
+    table = [(core.start() if start is None else start, mark)]
+    trail = [(-1, None)]
+    seen = {table[0]: True}
+    at = 0
+    while at < len(table):
+        standing, mark = table[at]
+        for row, after in walk.moves(standing):
+            pair = (after, marker.mark(mark, row, after))
+            if pair[1] == -1:
+                return Verdict(False, None, steps_to(trail, at) + [row])
+            if pair not in seen:
+                seen[pair] = True
+                table.append(pair)
+                trail.append((at, row))
+        at += 1
+    return Verdict(True, table, None)
+
+
+def breaks_at(core, promise, rows, *, start=None):
+    """Returns the index of the row that breaks the promise in this run, or None."""
+    mark = first_mark(core, promise)
+    marker = Marker(core, promise)
+    standings = core.play(rows, start=start)
+    for index, (row, after) in enumerate(zip(rows, standings)):
+        mark = marker.mark(mark, row, after)
+        if mark == -1:
+            return index
+    return None
