@@ -59,12 +59,22 @@ def drawn_supply(seed, most=4):
     return Supply(size, listed, starts=starts)
 
 
+# Plans that take a second lock while they hold a first one, from which rings come.
+CROSSED = (("a", "ab"), ("b", "ab"), ("b", "bc"), ("c", "ac"), ("a", "ab", "b"))
+
+
 def drawn_plan(draw, locks):
+    if draw.random() < 0.4:
+        return draw.choice(CROSSED)
     return tuple(draw.choice(locks) for _ in range(draw.randint(1, 3)))
 
 
 def drawn_task(draw, locks=("", "", "a", "b", "ab"), most_due=5):
-    if draw.random() < 0.25:
+    kind = draw.random()
+    if kind < 0.15:
+        length = draw.randint(1, 2)
+        return Task.serving(length, draw.randint(length, 4))
+    if kind < 0.3:
         plan = drawn_plan(draw, locks)
         due = draw.randint(len(plan), most_due)
         return Task([(plan, due)], [(0, 0, draw.randint(due, min(8, due + 2)))], steady=True)
