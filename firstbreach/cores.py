@@ -31,18 +31,23 @@ class Core:
 
     def changed(self, *, supply=None, tasks=None, choice=None, door=None, guard=None):
         """Returns a new core with what is not None in place of the own."""
+        new_supply = self.supply if supply is None else supply
         new_tasks = self.tasks if tasks is None else tasks
-        return Core(
-            self.supply if supply is None else supply,
-            *new_tasks,
-            choice=self.choice if choice is None else choice,
-            door=self.door if door is None else door,
-            guard=self.guard if guard is None else guard,
-        )
+        new_choice = self.choice if choice is None else choice
+        new_door = self.door if door is None else door
+        new_guard = self.guard if guard is None else guard
+        return Core(new_supply, *new_tasks, choice=new_choice, door=new_door, guard=new_guard)
 
     def start(self):
         """Returns the standing at the start."""
         return (self.supply.starts, tuple([NONE for _ in self.tasks]))
+
+    def begun(self, start):
+        """Returns the standing start, or the one at the start if it is None."""
+        if start is None:
+            return self.start()
+        states, statuses = start
+        return (tuple(states), tuple(statuses))
 
     def arrived(self, standing, comes):
         """Returns the tuple of the statuses after the arrivals."""
@@ -78,7 +83,7 @@ class Core:
     def is_possible(self, standing, row):
         """Returns whether the row is possible in the standing."""
         bit, comes, ran, more = row
-        if bit not in (0, 1) or more not in (0, 1) or len(comes) != len(self.tasks):
+        if bit not in (0, 1) or len(comes) != len(self.tasks):
             return False
         if not all([-1 <= node < len(task.nodes) for node, task in zip(comes, self.tasks)]):
             return False
@@ -154,7 +159,7 @@ class Core:
 
     def play(self, rows, *, start=None):
         """Returns the list of the standings after each of the rows."""
-        standing = self.start() if start is None else start
+        standing = self.begun(start)
         standings = []
         for index, row in enumerate(rows):
             if not self.is_possible(standing, row):

@@ -2,7 +2,7 @@
 
 from math import gcd
 
-from firstbreach.supplies import Supply
+from firstbreach.supplies import share_of
 from firstbreach.windows import parting, steps_by_state, word_to
 
 
@@ -92,7 +92,7 @@ def shares(supply, longest):
         given = 0
         word = None
         while given < period and word is None:
-            word = parting(supply, Supply.share(given + 1, period))
+            word = parting(supply, share_of(given + 1, period))
             if word is None:
                 given += 1
         found.append((period, given, word))

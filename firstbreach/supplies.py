@@ -23,15 +23,7 @@ class Supply:
         """Returns the supply that gives at least q ticks in each period of p ticks."""
         if not (1 <= p <= MAX_PERIOD and 0 <= q <= p):
             raise InvalidSupply("there is no such share")
-        places = [(i, k) for i in range(p) for k in range(min(i, q) + 1) if q - k <= p - i]
-        numbers = {place: number for number, place in enumerate(places)}
-        numbers[(p, q)] = numbers[(0, 0)]
-        steps = []
-        for i, k in places:
-            for tick, goal in ((0, (i + 1, k)), (1, (i + 1, min(k + 1, q)))):
-                if goal in numbers:
-                    steps.append((numbers[(i, k)], tick, numbers[goal]))
-        return cls(len(places), steps)
+        return share_of(q, p)
 
     @classmethod
     def always(cls):
@@ -82,6 +74,19 @@ class Supply:
         size, steps, starts = reached_part(self, 0)
         other_size, other_steps, other_starts = reached_part(other, size)
         return Supply(size + other_size, steps + other_steps, starts=starts + other_starts)
+
+
+def share_of(q, p):
+    """Returns the share of q in p, also for longer periods than there are shares of."""
+    places = [(i, k) for i in range(p) for k in range(min(i, q) + 1) if q - k <= p - i]
+    numbers = {place: number for number, place in enumerate(places)}
+    numbers[(p, q)] = numbers[(0, 0)]
+    steps = []
+    for i, k in places:
+        for tick, goal in ((0, (i + 1, k)), (1, (i + 1, min(k + 1, q)))):
+            if goal in numbers:
+                steps.append((numbers[(i, k)], tick, numbers[goal]))
+    return Supply(len(places), steps)
 
 
 def is_supply(size, steps, starts):

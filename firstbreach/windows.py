@@ -77,7 +77,7 @@ def word_to(supply, state):
 
 def delay(supply, count):
     """Returns the least number of ticks in which every window has a sum of at least count, or None."""
-    if count == 0:
+    if count < 1:
         return 0
     reached = supply.reached()
     steps = steps_by_state(supply)

@@ -227,6 +227,9 @@ class HeldBackTest(unittest.TestCase):
         tasks = [one("a"), one("b"), one("a", "a"), one("b", "b")]
         statuses = [NONE, new(), (0, 1, 1, 0), (0, 1, 1, 0)]
         self.assertEqual(Choice("first", "ceil").blocker(tasks, statuses, 1), 3)
+        # The same with the holder of b as job 0; the order "last" turns the levels round.
+        turned = statuses[::-1]
+        self.assertEqual(Choice("last", "ceil").blocker(tasks[::-1], turned, 2), 0)
 
 
 class ChosenTest(unittest.TestCase):

@@ -158,6 +158,12 @@ class StartTest(JudgeCase):
         verdict = self.check(self.CORE, Due(1), self.CORE.parties, start)
         self.assertEqual(verdict.table[0], (start, 0))
 
+    def test_lists_in_a_standing(self):
+        told = judge(self.CORE, Due(0), ["choice"], start=([0], [NONE, (0, 5, 2, 0)]))
+        self.assertEqual(told.run, judge(self.CORE, Due(0), ["choice"], start=((0,), (NONE, (0, 5, 2, 0)))).run)
+        told = judge(self.CORE, Due(1), self.CORE.parties, start=([0], [NONE, NONE]))
+        self.assertEqual(told.table, judge(self.CORE, Due(1), self.CORE.parties).table)
+
     def test_a_job_that_is_late_by_now(self):
         late = ((0,), ((0, 3, 0, 0), NONE))
         self.assertTrue(self.check(self.CORE, Due(0), self.CORE.parties, late))

@@ -1,6 +1,7 @@
 """The files of the package keep the rules of the Python subset that can be seen line by line."""
 
 import ast
+import builtins
 import pathlib
 import unittest
 
@@ -132,7 +133,7 @@ class LanguageTest(unittest.TestCase):
                     bound.add(node.arg)
                 if isinstance(node, ast.Name) and isinstance(node.ctx, ast.Store):
                     bound.add(node.id)
-            self.assertEqual(bound & (BUILTINS | BARRED_NAMES) - {"_"}, set(), name)
+            self.assertEqual((bound - {"_"}) & (BUILTINS | BARRED_NAMES | set(dir(builtins))), set(), name)
             read = {node.id for node in ast.walk(tree) if isinstance(node, ast.Name) and isinstance(node.ctx, ast.Load)}
             self.assertLessEqual(read, bound | BUILTINS, name)
             self.assertNotIn("_", read, name)

@@ -143,6 +143,11 @@ class SharesTest(unittest.TestCase):
                     self.assertEqual(word, parting(supply, Supply.share(q + 1, p)))
                     self.assertIsNotNone(word)
 
+    def test_somewhat_longer_periods(self):
+        told = shares(Supply.share(1, 2), 10)
+        self.assertEqual([(p, q) for p, q, _ in told], [(p, p // 2) for p in range(1, 11)])
+        self.assertEqual(shares(ALWAYS, 0), [])
+
     def test_all_periods(self):
         for p in range(1, 9):
             for q in range(p + 1):

@@ -71,6 +71,8 @@ class BuildingTest(unittest.TestCase):
 
     def test_a_state_that_does_not_exist(self):
         self.assert_invalid(2, ring(2) + [(2, 1, 0)])
+        self.assert_invalid(2, [(0, 1, 1), (2, 1, 0)])
+        self.assert_invalid(2, [(0, 1, 1), (-1, 1, 0)])
         self.assert_invalid(2, ring(2) + [(0, 1, 2)])
         self.assert_invalid(2, ring(2) + [(-1, 1, 0)])
         self.assert_invalid(2, ring(2) + [(0, 1, -1)])

@@ -129,6 +129,11 @@ class DelayTest(unittest.TestCase):
         self.assertEqual([delay(Supply.share(2, 2), count) for count in (1, 20)], [1, 20])
         self.assertEqual([delay(Supply.share(2, 5), count) for count in (1, 2, 3)], [7, 8, 12])
 
+    def test_somewhat_beyond_the_limits(self):
+        self.assertEqual(delay(ALWAYS, 25), 25)
+        self.assertEqual((delay(ALWAYS, -1), delay(NEVER, -1)), (0, 0))
+        self.assertEqual((least_given(ALWAYS, 45), most_given(ALWAYS, 45)), (45, 45))
+
     def test_none_where_ticks_can_be_kept_back_for_ever(self):
         for count in (1, 2, 20):
             self.assertIsNone(delay(NEVER, count))
