@@ -39,12 +39,12 @@ class Walk:
         """Finds what turns returns."""
         core = self._core
         standing = ((), statuses)
-        arrived = {}
+        least_comes = {}
         for comes in core.comings(standing, self._kept):
-            arrived.setdefault(core.arrived(standing, comes), comes)
+            least_comes.setdefault(core.arrived(standing, comes), comes)
         found = {}
         for bit in (0, 1):
-            for present, comes in arrived.items():
+            for present, comes in least_comes.items():
                 for ran, more in core.runnings(present, bit, self._kept):
                     later = core.passed(present, ran, more)
                     found.setdefault((bit, ran, later), (bit, comes, ran, more))

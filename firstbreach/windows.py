@@ -66,7 +66,8 @@ def word_to(supply, state):
     seen = {start: True for start in found}
     at = 0
     while found[at] != state:
-        for tick, goal in steps[found[at]]:
+        last = found[at]
+        for tick, goal in steps[last]:
             if goal not in seen:
                 seen[goal] = True
                 found.append(goal)
@@ -108,7 +109,8 @@ def order_of_gaps(reached, steps):
     order = [state for state in reached if left[state] == 0]
     at = 0
     while at < len(order):
-        for state in before[order[at]]:
+        goal = order[at]
+        for state in before[goal]:
             left[state] -= 1
             if left[state] == 0:
                 order.append(state)
