@@ -18,9 +18,9 @@ class Walk:
         """
         states, statuses = standing
         goals = self.goals(states)
-        lost = "supply" in self._kept and len(states) > 0
+        strict = "supply" in self._kept and len(states) > 0
         turns = self.turns(statuses)
-        return [(row, (goals[row[0]], later)) for row, later in turns if goals[row[0]] or not lost]
+        return [(row, (goals[row[0]], later)) for row, later in turns if goals[row[0]] or not strict]
 
     def goals(self, states):
         """Returns the pair of what a tick 0 and a tick 1 make of the states."""
