@@ -19,10 +19,14 @@ class Verdict:
 
 def judge(core, promise, kept, *, start=None):
     """Returns the verdict of the promise for the parties in the list kept."""
-    mark = first_mark(core, promise)
+    return found_verdict(core, promise, kept, (core.begun(start), first_mark(core, promise)))
+
+
+def found_verdict(core, promise, kept, first):
+    """Finds what judge returns, for runs that begin in the first pair of a standing and a mark."""
     walk = Walk(core, kept)
     marker = Marker(core, promise)
-    table = [(core.begun(start), mark)]
+    table = [first]
     trail = [(-1, None)]
     seen = {table[0]: True}
     at = 0

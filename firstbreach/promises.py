@@ -2,7 +2,7 @@
 
 from firstbreach.choices import blocked_by
 from firstbreach.errors import InvalidPromise
-from firstbreach.supplies import MAX_PERIOD, Supply
+from firstbreach.supplies import MAX_PERIOD, Supply, share_of
 
 
 class Promise:
@@ -51,12 +51,11 @@ class Spare(Promise):
 
     def gauge(self, core):
         """Returns the share of the left over ticks."""
-        return Supply.share(self.given, self.period)
+        return share_of(self.given, self.period)
 
     def counts(self, row):
         """Returns 1 if the row leaves its tick over, otherwise 0."""
-        bit, _, ran, _ = row
-        return 1 if bit == 1 and ran == -1 else 0
+        return left_over(row)
 
 
 class Fed(Promise):
@@ -85,6 +84,12 @@ class Free(Promise):
     def breaks_in(self, core, standing):
         """Returns whether the promise breaks in a row that leads to the standing."""
         return len(in_ring(core, standing)) > 0
+
+
+def left_over(row):
+    """Returns 1 if the row leaves its tick over, otherwise 0."""
+    bit, _, ran, _ = row
+    return 1 if bit == 1 and ran == -1 else 0
 
 
 class Marker:

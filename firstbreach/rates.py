@@ -3,6 +3,7 @@
 from math import gcd
 
 from firstbreach.supplies import share_of
+from firstbreach.trails import loop_in
 from firstbreach.windows import parting, steps_by_state, word_to
 
 
@@ -66,23 +67,6 @@ def turned(step):
     """Returns the step with its ends exchanged."""
     state, tick, goal = step
     return (goal, tick, state)
-
-
-def loop_in(steps):
-    """Returns the list of the steps of a loop, or None, where a dict has at most one step for each state."""
-    done = {}
-    for first in steps:
-        path = []
-        places = {}
-        state = first
-        while state in steps and state not in done:
-            done[state] = True
-            places[state] = len(path)
-            path.append(steps[state])
-            state = steps[state][2]
-        if state in places:
-            return path[places[state]:]
-    return None
 
 
 def shares(supply, longest):

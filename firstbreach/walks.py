@@ -1,5 +1,7 @@
 """Walks: following all runs of a core in which certain parties keep their books."""
 
+from firstbreach.errors import TooLarge
+
 
 class Walk:
     """The rows that may follow a standing in such runs, remembered from one standing to the next."""
@@ -49,3 +51,30 @@ class Walk:
                     later = core.passed(present, ran, more)
                     found.setdefault((bit, ran, later), (bit, comes, ran, more))
         return [(row, key[2]) for key, row in found.items()]
+
+
+def charted(core, kept, *, most=None):
+    """Returns a triple (standings, trail, steps) of all runs in which the parties in the list kept keep their books.
+
+    The standings are all to which such runs lead, those to which fewer rows lead first; the trail has a place for each,
+    and steps has for each the list of the pairs (row, place of the standing after it), as Walk gives the rows. Raises
+    TooLarge if there are more standings than most.
+    """
+    walk = Walk(core, kept)
+    standings = [core.start()]
+    trail = [(-1, None)]
+    places = {standings[0]: 0}
+    steps = []
+    while len(steps) < len(standings):
+        at = len(steps)
+        moves = []
+        for row, after in walk.moves(standings[at]):
+            if after not in places:
+                places[after] = len(standings)
+                standings.append(after)
+                trail.append((at, row))
+            moves.append((row, places[after]))
+        if most is not None and len(standings) > most:
+            raise TooLarge(most)
+        steps.append(moves)
+    return (standings, trail, steps)

@@ -103,3 +103,39 @@ def drawn_core(seed, most_tasks=3, most_weight=6000):
             continue
         if core.weight <= most_weight:
             return core
+
+
+def graph_of(core, kept, start=None):
+    """A dict from each standing to which such runs lead to the list of all its (row, standing after it)."""
+    graph = {}
+    waiting = [core.start() if start is None else start]
+    while waiting:
+        standing = waiting.pop()
+        if standing not in graph:
+            graph[standing] = [(row, core.after(standing, row)) for row in core.options(standing, kept)]
+            waiting += [after for _, after in graph[standing]]
+    return graph
+
+
+def drawn_run(core, seed, count, kept=()):
+    """The rows of a drawn run in which jobs run as often as they can, and the standings after them."""
+    draw = random.Random(seed)
+    standing = core.start()
+    rows, standings = [], []
+    for _ in range(count):
+        options = list(core.options(standing, kept))
+        row = draw.choice([row for row in options if row[2] >= 0] or options)
+        standing = core.after(standing, row)
+        rows.append(row)
+        standings.append(standing)
+    return rows, standings
+
+
+def keeps_books(core, rows, kept, start=None):
+    """Whether the parties in kept keep their books in the run."""
+    standing = core.start() if start is None else start
+    for row in rows:
+        if set(core.breaches(standing, row)) & set(kept):
+            return False
+        standing = core.after(standing, row)
+    return True

@@ -22,6 +22,41 @@ FUNCTIONS = {
         "delay": "(supply, count)",
     },
     "rates": {"rate": "(supply)", "shares": "(supply, longest)"},
+    "arrivals": {
+        "first_bad": "(task, arrivals)",
+        "coming": "(task, ticks)",
+        "most_asked": "(task, ticks)",
+        "asking": "(task, ticks)",
+    },
+    "loads": {"load": "(task)", "total_load": "(tasks)"},
+    "demand": {"demand": "(core)", "room": "(core, due, gap)"},
+    "waits": {
+        "holders": "(core, standing)",
+        "waits": "(core, standing)",
+        "runs_for": "(core, standing)",
+    },
+    "holdups": {
+        "held_up": "(core, task)",
+        "hinderers": "(core, task)",
+        "stretch": "(core, task)",
+    },
+    "responses": {
+        "response": "(core, task, node)",
+        "lateness": "(core, task)",
+        "busy": "(core)",
+    },
+    "leftovers": {"leftover": "(core, kept)", "stairs": "(core, longest)"},
+    "rests": {
+        "least_sets": "(core, promise)",
+        "lacking": "(core, promise, parties)",
+        "isolated": "(core, promise, task)",
+    },
+    "culprits": {"culprits": "(core, promise)", "crossing": "(sets)"},
+    "healing": {
+        "apply_change": "(core, change)",
+        "healings": "(core, promises, changes)",
+        "unhealed": "(core, promises, changes, chosen)",
+    },
 }
 
 METHODS = {
@@ -68,6 +103,7 @@ METHODS = {
     ("promises", "Spare"): {"__init__": "(self, given, period)"},
     ("promises", "Fed"): {"__init__": "(self, task)"},
     ("judging", "Verdict"): {"__bool__": "(self)"},
+    ("demand", "Demand"): {"__bool__": "(self)"},
 }
 
 CLASS_METHODS = {
@@ -75,7 +111,13 @@ CLASS_METHODS = {
     ("tasks", "Task"): {"plain": "(length, due, gap)", "serving": "(length, gap)"},
 }
 
-CLASSES = {"promises": ("Promise", "Due", "Spare", "Fed", "Free"), "judging": ("Verdict",), "rates": ("Rate",)}
+CLASSES = {
+    "promises": ("Promise", "Due", "Spare", "Fed", "Free"),
+    "judging": ("Verdict",),
+    "rates": ("Rate",),
+    "loads": ("Load",),
+    "demand": ("Demand",),
+}
 
 
 def module(name):
@@ -114,6 +156,7 @@ class InterfaceTest(unittest.TestCase):
     def test_generators(self):
         self.assertTrue(inspect.isgeneratorfunction(module("supplies").Supply.words))
         self.assertTrue(inspect.isgeneratorfunction(module("cores").Core.options))
+        self.assertTrue(inspect.isgeneratorfunction(module("arrivals").coming))
 
 
 if __name__ == "__main__":

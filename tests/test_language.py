@@ -131,6 +131,8 @@ class LanguageTest(unittest.TestCase):
                         self.assertIn(node.name, DUNDERS, name)
                 if isinstance(node, ast.arg):
                     bound.add(node.arg)
+                if isinstance(node, ast.ExceptHandler) and node.name:
+                    bound.add(node.name)
                 if isinstance(node, ast.Name) and isinstance(node.ctx, ast.Store):
                     bound.add(node.id)
             self.assertEqual((bound - {"_"}) & (BUILTINS | BARRED_NAMES | set(dir(builtins))), set(), name)
