@@ -56,7 +56,7 @@ def busy(core):
     endless = {}
     for at in moves:
         if at not in lengths:
-            row, goal = [(row, goal) for row, goal in moves[at] if goal not in lengths][0]
+            row, goal = [move for move in moves[at] if move[1] not in lengths][0]
             endless[at] = (at, row, goal)
     loop = loop_in(endless)
     return (None, (steps_to(trail, loop[0][0]), [row for _, row, _ in loop]))

@@ -175,6 +175,8 @@ class AskingTest(unittest.TestCase):
 
     def test_a_task_that_ends(self):
         self.assertEqual([self.check(ENDING, ticks) for ticks in range(7)], [0, 1, 1, 2, 3, 3, 4])
+        ending_or_not = Task([(("", ""), 2), (("",), 1)], [(0, 0, 3)])
+        self.assertEqual([self.check(ending_or_not, ticks) for ticks in (1, 2, 3, 4, 5)], [1, 2, 2, 2, 4])
         lonely = Task([(("", ""), 2)], [])
         self.assertEqual([self.check(lonely, ticks) for ticks in (1, 2, 40)], [0, 2, 2])
 

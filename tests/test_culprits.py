@@ -4,7 +4,6 @@ import itertools
 import random
 import unittest
 
-from firstbreach.choices import Choice
 from firstbreach.cores import Core
 from firstbreach.culprits import crossing, culprits
 from firstbreach.errors import InvalidPromise
@@ -20,6 +19,12 @@ PAIR = Core(ALWAYS, Task.plain(1, 1, 2), Task.plain(1, 2, 2))
 OPEN = PAIR.changed(door="open", guard="trust")
 # Rests on two least sets: ("choice", "gaps0", "gaps1", "supply") and ("choice", "gaps0", "needs0", "supply").
 TWO = Core(ALWAYS, Task.serving(1, 3), Task.plain(1, 5, 5), door="open", guard="after")
+
+# In three ticks that begin behind the first one of each six there is no time for three jobs, but all come at 0.
+TIRED = Core(
+    Supply(6, [(state, 0 if state == 3 else 1, (state + 1) % 6) for state in range(6)]),
+    Task.serving(1, 6), Task.serving(1, 6), Task([(("",), 3)], [(0, 0, 6)], steady=True),
+)
 
 
 def subsets(things):
@@ -67,10 +72,12 @@ class CulpritsTest(unittest.TestCase):
         )
 
     def test_more_than_two_parties(self):
-        core = Core(ALWAYS, Task.serving(1, 3), Task.plain(1, 5, 5), Task.plain(1, 5, 5), door="open", guard="after")
-        shut = core.changed(choice=Choice("last"), tasks=core.tasks[::-1])
-        self.assertEqual(self.check(core, Fed(0))[:4], [("choice",), ("gaps0",), ("supply",), ("gaps1", "needs0")])
-        self.assertEqual(self.check(shut, Fed(2))[:3], [("choice",), ("gaps2",), ("supply",)])
+        told = culprits(TIRED, Due(2))
+        self.assertEqual([parties for parties, _ in told], [("choice",), ("supply",), ("gaps0", "gaps1", "gaps2")])
+        for parties, run in told:
+            self.assertEqual(breaking_parties(TIRED, run), list(parties))
+            self.assertEqual(breaks_at(TIRED, Due(2), run), len(run) - 1)
+        self.assertEqual([len(run) for _, run in told], [3, 3, 4])
 
     def test_all_parties_are_not_enough(self):
         core = Core(Supply.share(0, 1), Task.plain(1, 1, 1))

@@ -225,6 +225,11 @@ class BusyTest(unittest.TestCase):
         self.assertIsNone(self.check(core))
         self.assertGreater(len(busy(core)[1][0]), 2)
 
+    def test_a_loop_beside_rows_that_lead_to_an_end(self):
+        # A tick that is kept back in state 0 leads to where every tick is given, and the jobs do not pile up.
+        supply = Supply(3, [(0, 0, 1), (0, 1, 2), (1, 1, 1), (2, 0, 0)])
+        self.assertIsNone(self.check(Core(supply, Task.plain(1, 2, 2), Task.plain(1, 2, 2))))
+
     def test_against_all_options(self):
         told = [self.check(drawn_core(seed, most_weight=1200)) for seed in range(150)]
         self.assertGreater(told.count(None), 20)

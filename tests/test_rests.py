@@ -71,6 +71,14 @@ class LeastSetsTest(unittest.TestCase):
             for promise in drawn_promises(one):
                 self.assertEqual(least_sets(one, promise), all_least_sets(one, promise))
 
+    def test_three_least_sets(self):
+        # All jobs come at 0 and can be done then; only if all three tasks put theirs off, time is short.
+        tired = Supply(6, [(state, 0 if state == 3 else 1, (state + 1) % 6) for state in range(6)])
+        last = Task([(("",), 3)], [(0, 0, 6)], steady=True)
+        core = Core(tired, Task.serving(1, 6), Task.serving(1, 6), last)
+        told = [("choice", f"gaps{number}", "supply") for number in range(3)]
+        self.assertEqual(least_sets(core, Due(2)), told)
+
     def test_the_order(self):
         for seed in range(40):
             core = drawn_core(seed, most_weight=300)
@@ -115,7 +123,8 @@ class SentencesTest(unittest.TestCase):
     def cores(self):
         for seed in range(80):
             core = drawn_core(seed, most_weight=300)
-            yield core, {party for promise in drawn_promises(core) for one in least_sets(core, promise) for party in one}
+            sets = [one for promise in drawn_promises(core) for one in least_sets(core, promise)]
+            yield core, {party for one in sets for party in one}
 
     def test_the_door_shut(self):
         for core, parties in self.cores():
