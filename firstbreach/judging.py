@@ -19,16 +19,18 @@ class Verdict:
 
 def judge(core, promise, kept, *, start=None):
     """Returns the verdict of the promise for the parties in the list kept."""
-    return found_verdict(core, promise, kept, (core.begun(start), first_mark(core, promise)))
+    first = (core.begun(start), first_mark(core, promise))
+    return found_verdict(Walk(core, kept), Marker(core, promise), first)
 
 
-def found_verdict(core, promise, kept, first):
-    """Finds what judge returns, for runs that begin in the first pair of a standing and a mark."""
-    walk = Walk(core, kept)
-    marker = Marker(core, promise)
+def found_verdict(walk, marker, first):
+    """Returns the verdict for the runs that begin in the first pair of a standing and a mark.
+
+    The walk tells the moves from a standing, and the marker tells the marks.
+    """
     table = [first]
     trail = [(-1, None)]
-    seen = {table[0]: True}
+    seen = {first: True}
     at = 0
     while at < len(table):
         standing, mark = table[at]
