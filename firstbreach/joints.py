@@ -16,6 +16,7 @@ class JointWalk:
         for number, guest in level.guests.items():
             self._guests.append((number, JointWalk(guest, kept_inside(kept, number))))
         self._known = {}
+        self._lent = {}
 
     def moves(self, joint):
         """Returns the list of the pairs (joint row, joint standing after it).
@@ -25,12 +26,23 @@ class JointWalk:
         standing, inner = joint
         found = []
         for row, after in self._walk.moves(standing):
+            lent = self.lent_moves(inner, row)
+            found.extend([((row, rows), (after, afters)) for rows, afters in lent])
+        return found
+
+    def lent_moves(self, inner, row):
+        """Returns the list of the pairs of the guests' joint rows beside this row of their host and what they lead to.
+
+        It is remembered, for it depends only on the job that runs.
+        """
+        key = (inner, row[2])
+        if key not in self._lent:
             lent = [((), ())]
             for (number, walk), part in zip(self._guests, inner):
                 moves = walk.moves_with(part, lent_bit(row, number))
                 lent = [(rows + (one,), afters + (goal,)) for rows, afters in lent for one, goal in moves]
-            found.extend([((row, rows), (after, afters)) for rows, afters in lent])
-        return found
+            self._lent[key] = lent
+        return self._lent[key]
 
     def moves_with(self, joint, bit):
         """Returns the list of the moves with this tick of the top core, remembered."""

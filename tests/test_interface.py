@@ -57,6 +57,25 @@ FUNCTIONS = {
         "healings": "(core, promises, changes)",
         "unhealed": "(core, promises, changes, chosen)",
     },
+    "levels": {"lifted": "(rows)"},
+    "lending": {
+        "together": "(level, path, promise, kept=None, *, start=None)",
+        "papers": "(level, path, promise)",
+        "outcome": "(level, path, promise)",
+        "fault_of": "(level, path, promise, rows)",
+    },
+    "settling": {"settle": "(hall)", "serve": "(hall, task)"},
+    "traces": {
+        "row_text": "(row)",
+        "read_row": "(text)",
+        "write_trace": "(rows)",
+        "read_trace": "(data)",
+        "as_bytes": "(text)",
+        "as_text": "(data)",
+    },
+    "writing": {"plan_text": "(levels, hall=None)"},
+    "reading": {"read_plan": "(text)"},
+    "desks": {"rehearse": "(desk, deeds)"},
 }
 
 METHODS = {
@@ -104,6 +123,58 @@ METHODS = {
     ("promises", "Fed"): {"__init__": "(self, task)"},
     ("judging", "Verdict"): {"__bool__": "(self)"},
     ("demand", "Demand"): {"__bool__": "(self)"},
+    ("levels", "Level"): {
+        "__init__": "(self, core, guests=None)",
+        "__iter__": "(self)",
+        "__contains__": "(self, path)",
+        "__getitem__": "(self, path)",
+        "start": "(self)",
+        "after": "(self, joint, row)",
+        "play": "(self, rows, *, start=None)",
+        "breaches": "(self, joint, row)",
+        "joint_options": "(self, joint, kept)",
+        "part": "(self, joint, path)",
+        "joined": "(self, path, task)",
+        "left": "(self, path, number)",
+        "exchanged": "(self, path, core)",
+    },
+    ("halls", "Taking"): {"__init__": "(self, least, *rules)"},
+    ("halls", "Hall"): {
+        "__init__": "(self, queues, taking)",
+        "start": "(self)",
+        "acts": "(self, position)",
+        "act": "(self, position, core, pick)",
+        "play": "(self, acts)",
+    },
+    ("settling", "Settled"): {"__bool__": "(self)"},
+    ("replay", "Replay"): {
+        "__init__": "(self, level, rows, *, start=None)",
+        "broken": "(self, path, promise)",
+        "account": "(self, path, promise, sets)",
+        "rows_of": "(self, path)",
+    },
+    ("houses", "House"): {
+        "__init__": "(self, levels, hall=None)",
+        "level_of": "(self, name)",
+        "joint_of": "(self, name)",
+        "tick": "(self, rows, *, picks=None)",
+        "breach_ticks": "(self)",
+    },
+    ("desks", "Desk"): {
+        "__init__": "(self, house)",
+        "secure": "(self, name)",
+        "ask": "(self, name, task, *, path=())",
+        "leave": "(self, name, number, *, path=())",
+        "exchange": "(self, name, *, path=(), choice=None, door=None, guard=None)",
+        "tick": "(self, rows, *, picks=None)",
+    },
+    ("desks", "Trial"): {"__init__": "(self, desk)", "__enter__": "(self)"},
+}
+
+PROPERTIES = {
+    ("tasks", "Task"): ("server",),
+    ("replay", "Replay"): ("first",),
+    ("houses", "House"): ("clock", "position", "wasted"),
 }
 
 CLASS_METHODS = {
@@ -117,6 +188,13 @@ CLASSES = {
     "rates": ("Rate",),
     "loads": ("Load",),
     "demand": ("Demand",),
+    "levels": ("Level",),
+    "lending": ("Outcome",),
+    "halls": ("Taking", "Hall"),
+    "settling": ("Settled",),
+    "replay": ("Replay",),
+    "houses": ("House",),
+    "desks": ("Desk", "Trial"),
 }
 
 
@@ -149,14 +227,19 @@ class InterfaceTest(unittest.TestCase):
             for one in classes:
                 self.assertEqual(getattr(module(name), one).__module__, "firstbreach." + name)
 
+    def test_properties(self):
+        for (name, one), properties in PROPERTIES.items():
+            for attribute in properties:
+                self.assertIsInstance(vars(getattr(module(name), one))[attribute], property)
+
     def test_other_names(self):
-        self.assertIsInstance(vars(module("tasks").Task)["server"], property)
         self.assertEqual(module("tasks").NONE, (-1, 0, 0, 0))
 
     def test_generators(self):
         self.assertTrue(inspect.isgeneratorfunction(module("supplies").Supply.words))
         self.assertTrue(inspect.isgeneratorfunction(module("cores").Core.options))
         self.assertTrue(inspect.isgeneratorfunction(module("arrivals").coming))
+        self.assertTrue(inspect.isgeneratorfunction(module("levels").Level.joint_options))
 
 
 if __name__ == "__main__":

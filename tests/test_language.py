@@ -3,6 +3,7 @@
 import ast
 import builtins
 import pathlib
+import re
 import unittest
 
 PACKAGE = pathlib.Path(__file__).resolve().parent.parent / "firstbreach"
@@ -152,6 +153,58 @@ class LanguageTest(unittest.TestCase):
             self.assertNotIsInstance(node.iter, (ast.Set, ast.SetComp), name)
             if isinstance(node.iter, ast.Call) and isinstance(node.iter.func, ast.Name):
                 self.assertNotIn(node.iter.func.id, ("set", "frozenset"), name)
+
+    def test_no_local_name_is_that_of_a_class_or_an_import(self):
+        for name, tree in trees():
+            taken = {alias.name for node in tree.body if isinstance(node, ast.ImportFrom) for alias in node.names}
+            taken |= {node.name for node in tree.body if isinstance(node, ast.ClassDef)}
+            local = {node.arg for node in ast.walk(tree) if isinstance(node, ast.arg)}
+            local |= {node.id for node in ast.walk(tree) if isinstance(node, ast.Name) and isinstance(node.ctx, ast.Store)}
+            self.assertEqual(local & taken, set(), name)
+
+    def test_no_name_is_a_method_and_an_attribute(self):
+        methods = {node.name for _, one in nodes_of(ast.ClassDef) for node in one.body if isinstance(node, ast.FunctionDef)}
+        stored = {node.attr for _, node in nodes_of(ast.Attribute) if isinstance(node.ctx, ast.Store)}
+        self.assertEqual(methods & stored, set())
+
+    def test_attributes_that_are_read_are_assigned(self):
+        methods = {node.name for _, node in nodes_of(ast.FunctionDef)}
+        stored = {node.attr for _, node in nodes_of(ast.Attribute) if isinstance(node.ctx, ast.Store)}
+        for name, tree in trees():
+            called = {id(node.func) for node in ast.walk(tree) if isinstance(node, ast.Call)}
+            for node in ast.walk(tree):
+                if isinstance(node, ast.Attribute) and isinstance(node.ctx, ast.Load) and id(node) not in called:
+                    self.assertTrue(node.attr in stored or node.attr in methods, f"{name}:{node.lineno} {node.attr}")
+
+    def test_only_generators_have_the_names_of_generators(self):
+        kinds = {}
+        for name, node in nodes_of(ast.FunctionDef):
+            inside = [one for one in ast.walk(node) if isinstance(one, (ast.Yield, ast.YieldFrom))]
+            kinds.setdefault(node.name, []).append(bool(inside))
+        for name, found in kinds.items():
+            if any(found):
+                self.assertEqual(found, [True], name)
+
+    def test_methods_of_builtin_values(self):
+        allowed = set(
+            "append clear copy count endswith extend find get index insert isalnum isalpha isdigit islower isspace isupper "
+            "items join keys ljust lower lstrip partition pop remove replace reverse rfind rjust rpartition rsplit rstrip "
+            "setdefault split splitlines startswith strip update upper values zfill bit_length encode decode".split()
+        )
+        # An object with a method __call__ may be kept in an attribute and called.
+        own = {node.name for _, node in nodes_of(ast.FunctionDef)} | {"choice"}
+        for name, node in nodes_of(ast.Call):
+            if isinstance(node.func, ast.Attribute):
+                self.assertTrue(node.func.attr in allowed or node.func.attr in own, f"{name}:{node.lineno}")
+
+    def test_words_that_do_not_occur(self):
+        barred = set(
+            "type typing typing_extensions enum Enum IntEnum StrEnum Flag IntFlag Generic Protocol ABC ABCMeta namedtuple "
+            "NamedTuple TypedDict TYPE_CHECKING abstractmethod dataclass overload contextmanager Meta bytearray memoryview".split()
+        )
+        for path in package_files():
+            words = set(re.findall("[A-Za-z_0-9]+", path.read_text(encoding="ascii")))
+            self.assertEqual(words & barred, set(), path.name)
 
 
 if __name__ == "__main__":
