@@ -30,17 +30,19 @@ def found_verdict(walk, marker, first):
     """
     table = [first]
     trail = [(-1, None)]
-    seen = {first: True}
+    # The marks that each standing has been seen with: a key of both would be too deep for joint standings.
+    seen = {first[0]: (first[1],)}
     at = 0
     while at < len(table):
         standing, mark = table[at]
         for row, after in walk.moves(standing):
-            pair = (after, marker.mark(mark, row, after))
-            if pair[1] == -1:
+            later = marker.mark(mark, row, after)
+            if later == -1:
                 return Verdict(False, None, steps_to(trail, at) + [row])
-            if pair not in seen:
-                seen[pair] = True
-                table.append(pair)
+            marks = seen.get(after, ())
+            if later not in marks:
+                seen[after] = marks + (later,)
+                table.append((after, later))
                 trail.append((at, row))
         at += 1
     return Verdict(True, table, None)

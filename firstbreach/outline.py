@@ -72,9 +72,7 @@ class Outline:
 
     def may_go_on(self):
         """Returns whether a further core of the last name may follow."""
-        if not self._paths:
-            return False
-        return any([self.leads_on(number) for number in self._paths[-1][:1] + (GREATEST,)])
+        return len(self._paths) > 0 and self.leads_on(GREATEST)
 
     def leads_on(self, number):
         """Returns whether a path that may follow begins with this number."""

@@ -3,7 +3,6 @@
 from firstbreach.errors import UnknownPath
 from firstbreach.joints import broken_in, first_breaches
 from firstbreach.levels import tupled
-from firstbreach.promises import first_mark
 
 
 class Replay:
@@ -25,7 +24,6 @@ class Replay:
 
     def broken(self, path, promise):
         """Returns the index of the row that breaks this promise of the core with this path, or None."""
-        first_mark(self.level[path], promise)
         return broken_in(self.level, path, promise, self.rows, self._begun)
 
     def account(self, path, promise, sets):

@@ -68,7 +68,7 @@ def settled(positions, trail, steps):
 
     The costs are 0 or 1.
     """
-    groups = group_numbers([[goal for goal, _, _ in found] for found in steps])
+    groups = group_numbers([[step[0] for step in choices] for choices in steps])
     for at, found in enumerate(steps):
         for goal, cost, act in found:
             if cost > 0 and groups[goal] == groups[at]:

@@ -221,14 +221,30 @@ class AskTest(DeskCase):
         self.assertEqual(error.path, ())
 
     def test_the_least_pair(self):
-        # Both jobs are late in the same row, for want of the third one's tick.
-        task = Task.plain(1, 1, 4)
-        level = Level(Core(ALWAYS, choice=Choice("last")))
-        desk = self.desk(level)
-        desk.ask("a", task)
-        joint = (((0,), (NONE, NONE)), ())
-        error = self.refused(desk, lambda: desk.ask("a", task), level.joined((), task).joined((), task), joint)
-        self.assertEqual((error.path, error.task, len(error.run)), ((), 0, 1))
+        # The first tick is kept back, and steady tasks come in it, so that all of their jobs are late by its end.
+        supply = Supply(2, [(0, 0, 1), (1, 1, 1)])
+        steady = Task([(("",), 1)], [(0, 0, 8)], steady=True)
+        lax = Task([(("",), 3)], [(0, 0, 8)], steady=True)
+        desk = self.desk(Level(Core(supply, lax, lax)))
+        level, joint = desk.house.level_of("a"), (((0,), (NONE,) * 3), ())
+        error = self.refused(desk, lambda: desk.ask("a", steady), level.joined((), steady), joint)
+        self.assertEqual((error.path, error.task, len(error.run)), ((), 2, 1))
+        for tasks, path, task in (((steady, steady), (), 0), ((lax, steady, steady), (), 1)):
+            level = Level(Core(supply, *tasks))
+            desk = self.desk(level)
+            error = self.refused(desk, lambda: desk.exchange("a", door="open"), level, level.start())
+            self.assertEqual((error.path, error.task, len(error.run)), (path, task, 1))
+        server = Task.serving(1, 4)
+        guest = Level(Core(Supply.share(1, 4), steady))
+        for tasks, guests, path, task in (
+            ((server, server), {0: guest, 1: guest}, (0,), 0),
+            ((server, server, steady), {0: guest, 1: guest}, (), 2),
+            ((lax, server), {1: guest}, (1,), 0),
+        ):
+            level = Level(Core(supply, *tasks), guests)
+            desk = self.desk(level)
+            error = self.refused(desk, lambda: desk.exchange("a", door="open"), level, level.start())
+            self.assertEqual((error.path, error.task, len(error.run)), (path, task, 1))
 
     def test_a_task_of_a_guest(self):
         level = Level(Core(ALWAYS, SERVER), {0: Level(Core(HALF, Task.plain(1, 4, 8)))})

@@ -253,6 +253,13 @@ class PartTest(unittest.TestCase):
             self.assertEqual(DEEP.part(joint, (0,)), joint[1][0][0])
             self.assertEqual(DEEP.part(joint, (0, 0)), joint[1][0][1][0][0])
 
+    def test_a_guest_of_another_number_in_a_guest(self):
+        inner = Level(Core(HALF, PLAIN, Task.serving(1, 4)), {1: Level(Core(Supply.share(1, 4), PLAIN))})
+        level = Level(Core(ALWAYS, PLAIN, PLAIN, SERVER), {2: inner})
+        rows, joints = drawn_joint_run(level, 4, 4)
+        for joint in joints + rows:
+            self.assertEqual(level.part(joint, (2, 1)), joint[1][0][1][0][0])
+
     def test_two_guests(self):
         rows, joints = drawn_joint_run(TWO, 5, 4)
         for joint in joints + rows:

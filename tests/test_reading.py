@@ -104,6 +104,10 @@ class RightTest(ReadingCase):
             "task", "node 2 -", "node 1 -", "edge 0 1 2", "edge 1 1 2", "taking 1 again any half", "queue",
         ]))
 
+    def test_entries(self):
+        levels, _ = read_plan("core a\nsupply always\ntask\nnode 8 - abc ab c\n")
+        self.assertEqual(levels["a"].core.tasks[0].nodes, ((("", "abc", "ab", "c"), 8),))
+
     def test_shares(self):
         for given, period in ((0, 1), (1, 1), (3, 4), (8, 8)):
             levels, _ = read_plan(f"core a\nsupply share {given} {period}\n")
@@ -162,6 +166,17 @@ class LineTest(ReadingCase):
             (28, ["queue", "core east"], 29), (28, ["queue", ""], 29), (28, ["queue", "taking 1"], 29), (28, ["core east"], 28),
         ):
             self.bad_lines(with_line(number, *lines), line, 1)
+
+    def test_the_number_of_queues(self):
+        for names in (["a"], ["a", "b"], ["a", "b", "c"]):
+            lines = [line for name in names for line in ("core " + name, "supply always")] + ["taking 1"]
+            for count in range(len(names)):
+                self.bad_lines(lines + ["queue"] * count, len(lines) + count + 1, 1)
+                self.bad_lines(lines + ["queue"] * count + ["core d"], len(lines) + count + 1, 1)
+            lines = lines + ["queue"] * len(names)
+            self.assertEqual(len(read_plan(text_of(lines))[1].queues), len(names))
+            for line in ("queue", "core d", "taking 1", "", "supply always"):
+                self.bad_lines(lines + [line], len(lines) + 1, 1)
 
     def test_empty_lines(self):
         for number in range(1, len(LINES) + 2):
@@ -228,6 +243,9 @@ class CoreLineTest(ReadingCase):
             ([("a",), ("a", 1), ("a", 0, 0)], 5, 3),
             ([("a",), ("a", 1), ("a", 1, 3), ("a", 1, 3)], 7, 4),
             ([("a",), ("a", 1), ("a", 1, 3), ("a", 1, 2)], 7, 4),
+            ([("a",), ("a", 5), ("a", 5, 3), ("a", 5, 2)], 7, 4),
+            ([("a",), ("a", 1), ("b",), ("b", 1, 0)], 7, 4),
+            ([("a",), ("a", 3), ("b",), ("b", 2), ("b", 3, 0)], 9, 4),
             ([("a",), ("a", 1), ("a", 1, 3), ("a", 1)], 7, 4),
             ([("a",), ("a", 1), ("a", 1, 3), ("a", 0)], 7, 3),
             ([("a",), ("a", 1), ("a", 2), ("a", 1, 0)], 7, 3),
@@ -245,6 +263,18 @@ class CoreLineTest(ReadingCase):
             ([("a",), ("b",), ("c",), ("c", 9999), ("c", 9999, 9998), ("c",)], 11, 3),
         ):
             self.bad_lines(self.blocks(*cores), line, word)
+
+    def test_paths_that_may_follow(self):
+        for cores in (
+            [("a",), ("a", 0), ("a", 0, 0), ("a", 0, 1)],
+            [("a",), ("a", 0), ("a", 0, 9999), ("a", 1)],
+            [("a",), ("a", 9998), ("a", 9998, 9999), ("a", 9999)],
+            [("a",), ("a", 9999), ("a", 9999, 9998), ("a", 9999, 9999)],
+            [("a",), ("b",), ("b", 0), ("b", 0, 0)],
+        ):
+            # The syntax is right, but the core before the first path of two numbers has no server.
+            first = [at for at, core in enumerate(cores) if len(core) == 3][0]
+            self.bad_part(self.blocks(*cores), first * 2 - 1, InvalidLevel)
 
     def test_a_path_whose_words_are_missing(self):
         self.bad_lines(self.blocks(("a",), ("a",)), 3, 3)
@@ -270,6 +300,7 @@ class PartTest(ReadingCase):
             (7, "node 1 - a", 6, InvalidTask),
             (7, "node 9 - a", 6, InvalidTask),
             (7, "node 4 - d", 6, InvalidTask),
+            (7, "node 4 - zzz", 6, InvalidTask),
             (7, "node 4 - aa", 6, InvalidTask),
             (7, "node 4 - ba", 6, InvalidTask),
             (7, "node 8 - - - - -", 6, InvalidTask),

@@ -103,10 +103,11 @@ class ReplayTest(unittest.TestCase):
         self.assertEqual(replay.rows_of((0,)), [RUNS[1][0][0], RESTS[1][0][0]])
         replay.rows_of(()).clear()
         self.assertEqual(len(replay.rows_of(())), 2)
-        for path in ((1,), (0, 0)):
-            with self.assertRaises(UnknownPath) as caught:
-                replay.rows_of(path)
-            self.assertEqual(caught.exception.path, path)
+        for one in (replay, Replay(LEVEL, [])):
+            for path in ((1,), (0, 0)):
+                with self.assertRaises(UnknownPath) as caught:
+                    one.rows_of(path)
+                self.assertEqual(caught.exception.path, path)
 
 
 class BrokenTest(unittest.TestCase):
@@ -126,14 +127,15 @@ class BrokenTest(unittest.TestCase):
         self.assertIsNone(Replay(LEVEL, [RUNS, RESTS]).broken((0,), Due(0)))
 
     def test_errors(self):
-        replay = Replay(LEVEL, [self.IDLE])
-        for call in (replay.broken, lambda path, promise: replay.account(path, promise, [])):
-            with self.assertRaises(UnknownPath) as caught:
-                call((1,), Due(7))
-            self.assertEqual(caught.exception.path, (1,))
-            for promise in (Due(1), Due(0, late=2), Fed(0), Spare(1, 9)):
-                with self.assertRaises(InvalidPromise):
-                    call((0,), promise)
+        for rows in ([self.IDLE], []):
+            replay = Replay(LEVEL, rows)
+            for call in (replay.broken, lambda path, promise: replay.account(path, promise, [])):
+                with self.assertRaises(UnknownPath) as caught:
+                    call((1,), Due(7))
+                self.assertEqual(caught.exception.path, (1,))
+                for promise in (Due(1), Due(0, late=2), Fed(0), Spare(1, 9)):
+                    with self.assertRaises(InvalidPromise):
+                        call((0,), promise)
 
     def test_drawn_runs(self):
         for seed in range(80):
